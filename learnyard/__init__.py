@@ -1,0 +1,1 @@
+"""Learnyard: orders of learning."""
