@@ -1,4 +1,5 @@
 import unittest
+from itertools import product
 
 from learnyard.errors import BadNumber, BadState
 from learnyard.rows import how_many, is_row, row_at, shortest
@@ -26,11 +27,11 @@ class IsRowTest(unittest.TestCase):
         self.assertRaises(BadState, is_row, (0, []), [0])
 
     def test_against_going_through_all(self):
-        for rules in brute.small_rules():
+        for rules in brute.every_rules(2) + brute.some_rules(3, 40, 30) + brute.some_rules(4, 20, 44):
             good = brute.rows(rules)
-            for things in brute.every_set(rules[0]):
-                for row in (list(things), list(reversed(things)), list(things) + list(things)):
-                    self.assertIs(is_row(rules, row), row in good, (rules, row))
+            for size in range(rules[0] + 2):
+                for order in product(range(rules[0]), repeat=size):
+                    self.assertIs(is_row(rules, list(order)), list(order) in good, (rules, order))
 
 
 class RowAtTest(unittest.TestCase):
