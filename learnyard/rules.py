@@ -70,9 +70,16 @@ def next_things(rules, state):
 
 
 def states(rules):
+    return sorted([things_of(mask) for mask in masks_of_states(rules)], key=states_order)
+
+
+def states_order(things):
+    return (len(things), things)
+
+
+def masks_of_states(rules):
     look_rules(rules)
-    found = states_within(needs_of(rules), mask_of_all(rules[0]))
-    return sorted([things_of(mask) for mask in found], key=lambda things: (len(things), things))
+    return states_within(needs_of(rules), mask_of_all(rules[0]))
 
 
 def is_state(rules, things):

@@ -99,3 +99,45 @@ def road(known_states, one, other):
     fewer = [order for order in permutations(sorted(set(one) - set(other)))
              if all(step in known_states for step in passed(top, order))]
     return passed(one, min(more)) + passed(top, max(fewer))[1:]
+
+
+def paths(rules):
+    known_states = states(rules)
+    return (rules[0], sorted(
+        (thing, state) for thing in range(rules[0]) for state in known_states
+        if may_come(rules, state, thing)
+        and not any(may_come(rules, lesser, thing) for lesser in known_states if set(lesser) < set(state))))
+
+
+def parting(one, other):
+    ones, others = states(one), states(other)
+    apart = [things for things in every_set(one[0]) if (things in ones) != (things in others)]
+    return apart[0] if apart else None
+
+
+def spare(rules):
+    known_states = states(rules)
+    kept = list(rules[1])
+    for way in rules[1][::-1]:
+        fewer = [other for other in kept if other != way]
+        if states((rules[0], fewer)) == known_states:
+            kept = fewer
+    return (rules[0], kept)
+
+
+def question(count, left):
+    if len(left) == 1:
+        return None
+    gaps = [abs(sum(1 if thing in state else -1 for state in left)) for thing in range(count)]
+    return min(range(count), key=lambda thing: (gaps[thing], thing))
+
+
+def fewest(left, things):
+    # Also by questions whose answer is clear: they help nobody, so they may be tried.
+    if len(left) == 1:
+        return 0
+    return min(1 + max(fewest(side, things - {thing}) for side in sides(left, thing) if side) for thing in things)
+
+
+def sides(left, thing):
+    return [state for state in left if thing in state], [state for state in left if thing not in state]

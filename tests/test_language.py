@@ -22,6 +22,8 @@ NODES = """Module Expr Constant ImportFrom alias FunctionDef arguments arg Class
 Break Continue Pass Raise Try ExceptHandler Call Name Attribute Subscript Slice List Tuple Dict ListComp comprehension
 BinOp UnaryOp BoolOp Compare IfExp Lambda JoinedStr FormattedValue keyword Load Store Add Sub Mult FloorDiv Mod Pow
 BitAnd BitOr BitXor LShift RShift Invert USub UAdd Not And Or Eq NotEq Lt LtE Gt GtE In NotIn Is IsNot""".split()
+TAKEN = {name for kind in (str, int, list, tuple, dict, set, frozenset, bytes, bool) for name in dir(kind)}
+VALUES = set("count index title find get join lower upper split strip copy add".split())
 WALKED = {"zip", "enumerate", "reversed", "range"}
 WALKERS = {"list", "tuple", "dict", "sorted", "sum", "any", "all", "enumerate", "zip", "min", "max"}
 
@@ -40,6 +42,7 @@ def faults(text):
         if type(node).__name__ not in NODES:
             found.append(f"L6/L7 {type(node).__name__}")
         found += name_faults(node, tree) + def_faults(node) + call_faults(node) + value_faults(node)
+        found += object_faults(node)
     return found + top_faults(tree)
 
 
@@ -91,7 +94,7 @@ def name_faults(node, tree):
     found = []
     if name.startswith("_") and name not in DUNDERS:
         found.append(f"L12 {name}")
-    if hasattr(builtins, name) and (binds or name not in OWN_NAMES):
+    if hasattr(builtins, name) and name not in DUNDERS and (binds or name not in OWN_NAMES):
         found.append(f"L8/L15 {name}")
     if binds and inside_def(node) and name in top_names(tree):
         found.append(f"L15 local {name}")
@@ -132,6 +135,29 @@ def call_faults(node):
     return found
 
 
+def methods_of(node):
+    return [part for part in node.body if isinstance(part, ast.FunctionDef)]
+
+
+def values_of(node):
+    return [part.attr for part in ast.walk(node) if isinstance(part, ast.Attribute) and isinstance(part.ctx, ast.Store)]
+
+
+def object_faults(node):
+    if not isinstance(node, ast.ClassDef):
+        return []
+    methods = [method.name for method in methods_of(node)]
+    values = values_of(node)
+    found = [f"L18 {name} twice" for name in set(methods) if methods.count(name) > 1]
+    found += [f"L18 {name} is a method and a value" for name in set(values) if name in methods]
+    found += [f"L26 value {name}" for name in values if name in TAKEN and name not in VALUES]
+    found += [f"L26 method {name}" for name in methods if name in TAKEN - METHODS - DUNDERS]
+    for method in methods_of(node):
+        if method.name == "__init__" and [part for part in ast.walk(method) if isinstance(part, ast.Return)]:
+            found.append("L28 __init__ gives something back")
+    return found
+
+
 def value_faults(node):
     found = []
     if isinstance(node, ast.Constant) and isinstance(node.value, (float, complex, bytes)):
@@ -166,6 +192,10 @@ BROKEN = (
     "def f(a):\n    raise a\n", "def f(a):\n    return 1.5\n", "a = '" + "x" * 120 + "'\n", "a = '5%'\n",
     "def f(a):\n    return [b for c in a for b in c]\n", "def f(a):\n" + "    a += 1\n" * 40 + "    return a\n",
     "from learnyard.rules import core\n\n\ndef f(a):\n    core = a\n    return core\n",
+    "class C:\n    def f(self):\n        self.f = 1\n", "class C:\n    def f(self):\n        self.values = 1\n",
+    "class C:\n    def union(self):\n        pass\n", "class C:\n    def __init__(self):\n        return None\n",
+    "class C:\n    def __hash__(self):\n        pass\n",
+    "class C:\n    def f(self):\n        pass\n\n    def f(self):\n        pass\n",
 )
 
 

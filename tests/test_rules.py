@@ -1,9 +1,13 @@
 import unittest
 
 from learnyard.errors import BadRules, BadState
+from learnyard.finding import Finder, fewest_questions
 from learnyard.fringes import by_fringes, last_things, road
+from learnyard.joining import behind, cut, joined
+from learnyard.paths import alike, parting, paths, spare
 from learnyard.rows import how_many, is_row, row_at, shortest
 from learnyard.rules import core, greatest, is_state, look_rules, next_things, states
+from learnyard.texts import written
 from tests import brute
 
 CHOICE = (4, [(0, ()), (1, ()), (2, (0, 1)), (2, (3,)), (3, (0,))])
@@ -26,6 +30,19 @@ TAKERS = (
     ("last_things", lambda rules: last_things(rules, (99, -1))),
     ("by_fringes", lambda rules: by_fringes(rules, [99], [-1])),
     ("road", lambda rules: road(rules, (99, -1), (99, -1))),
+    ("paths", lambda rules: paths(rules)),
+    ("spare", lambda rules: spare(rules)),
+    ("alike, the one", lambda rules: alike(rules, (7, []))),
+    ("alike, the other", lambda rules: alike((7, []), rules)),
+    ("parting, the one", lambda rules: parting(rules, (7, []))),
+    ("parting, the other", lambda rules: parting((7, []), rules)),
+    ("joined, the one", lambda rules: joined(rules, (7, []))),
+    ("joined, the other", lambda rules: joined((7, []), rules)),
+    ("cut", lambda rules: cut(rules, (99, -1))),
+    ("behind", lambda rules: behind(rules, (99, -1))),
+    ("Finder", lambda rules: Finder(rules)),
+    ("fewest_questions", lambda rules: fewest_questions(rules)),
+    ("written", lambda rules: written(rules)),
 )
 
 BAD_RULES = (

@@ -2,13 +2,21 @@ import copy
 import inspect
 import unittest
 
-from learnyard import fringes, rows, rules
+from learnyard import finding, fringes, joining, rows, rules, texts
+from learnyard import paths as least
+from learnyard.finding import Finder, fewest_questions
 from learnyard.fringes import by_fringes, last_things, road
+from learnyard.joining import behind, cut, joined
+from learnyard.paths import alike, parting, paths, spare
 from learnyard.rows import how_many, is_row, row_at, shortest
 from learnyard.rules import core, greatest, is_state, look_rules, next_things, states
+from learnyard.texts import read, written
 from tests import brute
 
 CHOICE = (4, [(0, ()), (1, ()), (2, (0, 1)), (2, (3,)), (3, (0,))])
+OTHER = (4, [(0, (3,)), (2, ()), (2, (1,)), (3, ()), (3, (2,))])
+# These are their own paths, and no way can be spared: what is told of them must be new none the less.
+LEAST = (4, [(0, ()), (1, ()), (2, (0, 1)), (2, (0, 3)), (3, (0,))])
 
 CALLS = (
     (look_rules, ()),
@@ -28,6 +36,19 @@ CALLS = (
     (by_fringes, ([], [1, 0])),
     (road, ((0, 3), (1,))),
     (road, ((0, 3), (0, 3))),
+    (paths, ()),
+    (spare, ()),
+    (alike, (OTHER,)),
+    (alike, (LEAST,)),
+    (parting, (OTHER,)),
+    (joined, (OTHER,)),
+    (joined, ((4, []),)),
+    (cut, ((1, 2, 3),)),
+    (cut, ((0, 1, 2, 3),)),
+    (behind, ((),)),
+    (behind, ((0,),)),
+    (fewest_questions, ()),
+    (written, ()),
 )
 
 ARGUMENTS = (
@@ -44,26 +65,64 @@ ARGUMENTS = (
     (fringes, "last_things", "rules state"),
     (fringes, "by_fringes", "rules last later"),
     (fringes, "road", "rules one other"),
+    (least, "paths", "rules"),
+    (least, "spare", "rules"),
+    (least, "alike", "one other"),
+    (least, "parting", "one other"),
+    (joining, "joined", "one other"),
+    (joining, "cut", "rules things"),
+    (joining, "behind", "rules state"),
+    (finding, "Finder", "rules"),
+    (finding, "fewest_questions", "rules"),
+    (Finder, "left", "self"),
+    (Finder, "question", "self"),
+    (Finder, "answer", "self thing has"),
+    (texts, "written", "rules"),
+    (texts, "read", "text"),
 )
+
+
+def lists_in(told):
+    if isinstance(told, list):
+        return [told]
+    return [part for part in told if isinstance(part, list)] if isinstance(told, tuple) else []
 
 
 class WholeTest(unittest.TestCase):
     def test_what_is_handed_in_stays_as_it_was(self):
-        for function, others in CALLS:
-            handed = copy.deepcopy((CHOICE,) + others)
-            function(*handed)
-            self.assertEqual(handed, (CHOICE,) + others, function)
+        for first_rules in (CHOICE, LEAST):
+            for function, others in CALLS:
+                handed = copy.deepcopy((first_rules,) + others)
+                function(*handed)
+                self.assertEqual(handed, (first_rules,) + others, function)
 
     def test_a_list_that_was_told_can_be_changed(self):
-        for function, others in CALLS:
-            handed = copy.deepcopy((CHOICE,) + others)
-            first = function(*handed)
-            expected = copy.deepcopy(first)
-            if isinstance(first, list):
-                first.append("more")
-                first.reverse()
-            self.assertEqual(function(*handed), expected, function)
-            self.assertEqual(handed, (CHOICE,) + others, function)
+        for first_rules in (CHOICE, LEAST):
+            for function, others in CALLS:
+                handed = copy.deepcopy((first_rules,) + others)
+                first = function(*handed)
+                expected = copy.deepcopy(first)
+                for told in lists_in(first):
+                    told.append("more")
+                    told.reverse()
+                self.assertEqual(function(*handed), expected, function)
+                self.assertEqual(handed, (first_rules,) + others, function)
+
+    def test_rules_that_were_read_can_be_changed(self):
+        first = read(written(CHOICE))
+        first[1].clear()
+        self.assertEqual(read(written(CHOICE)), CHOICE)
+
+    def test_a_finder_changes_and_keeps_nothing_that_is_handed_in(self):
+        handed = copy.deepcopy(CHOICE)
+        finder = Finder(handed)
+        finder.question()
+        finder.answer(1, False)
+        finder.left().clear()
+        self.assertEqual(handed, CHOICE)
+        handed[1].clear()
+        self.assertEqual(finder.left(), [(), (0,), (0, 3), (0, 2, 3)])
+        self.assertEqual(finder.question(), 3)
 
     def test_nothing_that_is_handed_in_is_kept(self):
         handed = copy.deepcopy(CHOICE)
@@ -89,8 +148,19 @@ class WholeTest(unittest.TestCase):
         self.assertEqual([type(state) for state in states(CHOICE)], [tuple] * 9)
         self.assertEqual([type(state) for state in road(CHOICE, (0, 3), (1,))], [tuple] * 4)
         self.assertIs(type(how_many(CHOICE, ())), int)
-        for value in (greatest(CHOICE), core(CHOICE, (2,)), by_fringes(CHOICE, [], [0, 1])):
+        for value in (greatest(CHOICE), core(CHOICE, (2,)), by_fringes(CHOICE, [], [0, 1]), parting(CHOICE, OTHER)):
             self.assertIs(type(value), tuple)
+        self.assertEqual([type(state) for state in Finder(CHOICE).left()], [tuple] * 9)
+        for value in (Finder(CHOICE).question(), fewest_questions(CHOICE), fewest_questions((0, []))):
+            self.assertIs(type(value), int)
+        self.assertIs(type(written(CHOICE)), str)
+
+    def test_rules_that_are_told_are_rules(self):
+        for told in (paths(CHOICE), spare(CHOICE), joined(CHOICE, OTHER), cut(CHOICE, (1, 2)), behind(CHOICE, (0,)),
+                     read(written(CHOICE))):
+            self.assertIs(type(told), tuple)
+            self.assertIs(type(told[1]), list)
+            self.assertIsNone(look_rules(told))
 
     def test_names_and_arguments(self):
         for module, name, arguments in ARGUMENTS:
